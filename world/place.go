@@ -1,11 +1,15 @@
 package world
 
-import "scenes/api"
+import (
+	"scenes/api"
+	"scenes/layout"
+)
 
 // place: where entities live, one after the other.
 type place struct {
-	begun int  // lives begun, the one that goes on among them
-	taken bool // does the last of them go on?
+	begun int        // lives begun, the one that goes on among them
+	taken bool       // does the last of them go on?
+	comps layout.Set // which components the entity that lives here has
 }
 
 // free: may a life begin here?
@@ -17,6 +21,7 @@ func (p *place) free() bool {
 func (p *place) begin() int {
 	p.begun++
 	p.taken = true
+	p.comps = 0
 	return p.begun
 }
 

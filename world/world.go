@@ -4,12 +4,14 @@ package world
 import (
 	"scenes/api"
 	"scenes/layout"
+	"scenes/table"
 )
 
 // World: of a schema.
 type World struct {
 	layout layout.Layout
 	places [api.MaxEntities]place
+	tables map[layout.Set]*table.Table // by the components of those who stand there
 }
 
 // New: an empty world (P2).
@@ -30,7 +32,9 @@ func (w *World) Spawn() (api.Handle, api.Errno) {
 	for i := range w.places {
 		p := &w.places[i]
 		if p.free() {
-			return api.Handle{Place: i + 1, Life: p.begin()}, api.OK
+			h := api.Handle{Place: i + 1, Life: p.begin()}
+			w.enter(h, p.comps)
+			return h, api.OK
 		}
 	}
 	return api.Handle{}, api.ErrFull
@@ -41,7 +45,12 @@ func (w *World) Despawn(h api.Handle) api.Errno {
 	if !w.Alive(h) {
 		return api.ErrStale
 	}
-	w.places[h.Place-1].end()
+	p := w.placeOf(h)
+	w.leave(h, p.comps)
+	p.end()
+	for _, t := range w.tables {
+		t.Forget(h)
+	}
 	return api.OK
 }
 
@@ -50,25 +59,8 @@ func (w *World) Alive(h api.Handle) bool {
 	if w == nil || h.Place < 1 || h.Place > api.MaxEntities {
 		return false
 	}
-	return w.places[h.Place-1].hosts(h.Life)
+	return w.placeOf(h).hosts(h.Life)
 }
-
-// Add: a component more (P3).
-func (w *World) Add(h api.Handle, comp string) api.Errno { return api.OK }
-
-// Remove: a component less (P3).
-func (w *World) Remove(h api.Handle, comp string) api.Errno { return api.OK }
-
-// Set: a field's value (P4).
-func (w *World) Set(h api.Handle, comp string, field string, v api.Value) api.Errno { return api.OK }
-
-// Get: a field's value (P4).
-func (w *World) Get(h api.Handle, comp string, field string) (api.Value, api.Errno) {
-	return api.Value{}, api.OK
-}
-
-// Query: who has some components (P5).
-func (w *World) Query(comps []string) ([]api.Handle, api.Errno) { return nil, api.OK }
 
 // Save: the world as a text (P6).
 func (w *World) Save() string { return "" }

@@ -173,64 +173,6 @@ func TestDespawnOfNobody(t *testing.T) {
 	spawn(t, w, 3, 1)
 }
 
-// model is a world told once more, as plainly as can be: the handles that
-// live, and the lives begun at each place.
-type model struct {
-	living map[api.Handle]int
-	begun  map[int]int
-}
-
-func (m *model) spawn() (api.Handle, api.Errno) {
-	for place := 1; place <= api.MaxEntities; place++ {
-		last := api.Handle{Place: place, Life: m.begun[place]}
-		if m.living[last] == 0 && m.begun[place] < api.MaxGen {
-			m.begun[place]++
-			last.Life++
-			m.living[last] = 1
-			return last, api.OK
-		}
-	}
-	return api.Handle{}, api.ErrFull
-}
-
-func (m *model) despawn(h api.Handle) api.Errno {
-	if m.living[h] == 0 {
-		return api.ErrStale
-	}
-	delete(m.living, h)
-	return api.OK
-}
-
-func TestManyCourses(t *testing.T) {
-	seed := uint32(1)
-	draw := func(n int) int {
-		seed = seed*1664525 + 1013904223
-		return int(seed>>8) % n
-	}
-	for course := range 60 {
-		w := begin(t)
-		m := model{map[api.Handle]int{}, map[int]int{}}
-		for step := range 300 {
-			if draw(3+course%4) < 2 {
-				h, e := w.Spawn()
-				if wantH, wantE := m.spawn(); h != wantH || e != wantE {
-					t.Fatalf("course %d, step %d: Spawn() = %v, %d, want %v, %d", course, step, h, e, wantH, wantE)
-				}
-			} else {
-				h := api.Handle{Place: draw(api.MaxEntities + 2), Life: draw(api.MaxGen + 2)}
-				e := w.Despawn(h)
-				if want := m.despawn(h); e != want {
-					t.Fatalf("course %d, step %d: Despawn(%v) = %d, want %d", course, step, h, e, want)
-				}
-			}
-			if step%20 == 0 {
-				wantLiving(t, w, m.living)
-			}
-		}
-		wantLiving(t, w, m.living)
-	}
-}
-
 func TestWorldsStandAlone(t *testing.T) {
 	a, b := begin(t), begin(t)
 	h := spawn(t, a, 1, 1)
