@@ -84,6 +84,17 @@ func (t *Table) Get(h api.Handle, comp, field int) api.Value {
 	return t.columns[comp][field].Get(t.row(h))
 }
 
+// Values: of an entity of the table: of each component those of its fields, in
+// order. They are the caller's own.
+func (t *Table) Values(h api.Handle) [api.MaxComps][]api.Value {
+	var all [api.MaxComps][]api.Value
+	row := t.row(h)
+	t.each(func(comp, _ int, c column.Column) {
+		all[comp] = append(all[comp], c.Get(row))
+	})
+	return all
+}
+
 // Set: a field's value, of an entity of the table.
 func (t *Table) Set(h api.Handle, comp, field int, v api.Value) {
 	t.columns[comp][field].Set(t.row(h), v)

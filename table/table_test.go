@@ -130,3 +130,26 @@ func TestEntitiesAreTold(t *testing.T) {
 	l.Enter(handle(2))
 	wantEntities(t, l, 1, 2)
 }
+
+func TestValues(t *testing.T) {
+	l := New(example, layout.Set(0).With(pos).With(mark).With(bag))
+	for p := 1; p <= 3; p++ {
+		l.Enter(handle(p))
+		l.Set(handle(p), pos, 0, num(p))
+		l.Set(handle(p), pos, 1, num(-p))
+		l.Set(handle(p), bag, 0, api.Value{Kind: api.List, L: []int{p}})
+	}
+	// A second time, behind it that the caller wrote into what was told.
+	for range 2 {
+		for p := 1; p <= 3; p++ {
+			told := l.Values(handle(p))
+			if len(told[pos]) != 2 || told[pos][0].N != p || told[pos][1].N != -p || len(told[bag]) != 1 || !slices.Equal(told[bag][0].L, []int{p}) {
+				t.Fatalf("of %d: %v", p, told)
+			}
+			if len(told[mark]) != 0 || len(told[link]) != 0 {
+				t.Errorf("of %d, of a component that has no fields or is not there: %v", p, told)
+			}
+			told[pos][0], told[bag][0].L[0] = num(9), 9
+		}
+	}
+}

@@ -199,6 +199,7 @@ func wantModel(t *testing.T, w *World, m *model) {
 		}
 		wantQuery(t, w, m, comps)
 	}
+	wantSaved(t, w, m.save(), m.pack())
 }
 
 func wantGet(t *testing.T, w *World, m *model, h api.Handle, comp, field string) {

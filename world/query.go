@@ -11,11 +11,7 @@ import (
 
 // Query: who has some components (P5).
 func (w *World) Query(comps []string) ([]api.Handle, api.Errno) {
-	if w == nil {
-		// New hands out nil beside an error: such a world is empty, and has
-		// no components.
-		w = &World{}
-	}
+	w = w.orEmpty()
 	wanted, e := w.findAll(comps)
 	if e != api.OK {
 		return nil, e

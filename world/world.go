@@ -62,19 +62,11 @@ func (w *World) Alive(h api.Handle) bool {
 	return w.placeOf(h).hosts(h.Life)
 }
 
-// Save: the world as a text (P6).
-func (w *World) Save() string { return "" }
-
-// Load: the entities of a text (P8).
-func (w *World) Load(text string) ([]api.Handle, api.Errno) { return nil, api.OK }
-
-// Pack: the world as bytes (P7).
-func (w *World) Pack() string { return "" }
-
-// Unpack: the entities of bytes (P8).
-func (w *World) Unpack(bytes string) ([]api.Handle, api.Errno) { return nil, api.OK }
-
-// Put: the entities of a text, with changes (P9).
-func (w *World) Put(text string, over []api.Over) ([]api.Handle, api.Errno, int) {
-	return nil, api.OK, 0
+// orEmpty: the world itself. New hands out nil beside an error: such a world is
+// empty, and has no components.
+func (w *World) orEmpty() *World {
+	if w == nil {
+		return &World{}
+	}
+	return w
 }
