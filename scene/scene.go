@@ -1,5 +1,5 @@
 // Package scene: entities told apart from any world, and how they are written
-// down.
+// down and read.
 package scene
 
 import (

@@ -4,6 +4,7 @@ import (
 	"encoding/binary"
 	"fmt"
 	"math"
+	"slices"
 	"strconv"
 	"strings"
 	"testing"
@@ -41,6 +42,7 @@ func (e Entity) with(comp int, values ...api.Value) Entity {
 	return e
 }
 
+// wantWritten: the scene is written so, and read back from it.
 func wantWritten(t *testing.T, l layout.Layout, s Scene, text, pack string) {
 	t.Helper()
 	if got := s.Text(l); got != text {
@@ -49,6 +51,28 @@ func wantWritten(t *testing.T, l layout.Layout, s Scene, text, pack string) {
 	if got := s.Bytes(l); got != pack {
 		t.Errorf("Bytes: %q, want %q", got, pack)
 	}
+	if got, ok := FromText(text, l); !ok || !same(got, s) {
+		t.Errorf("FromText(%q) = %v, %v, want %v", text, got, ok, s)
+	}
+	if got, ok := FromBytes(pack, l); !ok || !same(got, s) {
+		t.Errorf("FromBytes(%q) = %v, %v, want %v", pack, got, ok, s)
+	}
+}
+
+// same: are they the same scene? (An empty list may be nil or not.)
+func same(a, b Scene) bool {
+	return slices.EqualFunc(a, b, func(a, b Entity) bool {
+		for k := range a.Values {
+			if !slices.EqualFunc(a.Values[k], b.Values[k], sameValue) {
+				return false
+			}
+		}
+		return a.Comps == b.Comps
+	})
+}
+
+func sameValue(a, b api.Value) bool {
+	return a.Kind == b.Kind && a.N == b.N && a.S == b.S && a.H == b.H && slices.Equal(a.L, b.L)
 }
 
 func TestNobody(t *testing.T) {

@@ -71,12 +71,19 @@ func appendQuoted(text []byte, s string) []byte {
 	return append(text, '"')
 }
 
+// digits: of base 16.
+const digits = "0123456789abcdef"
+
+// plain: does the byte stand for itself in a text?
+func plain(b byte) bool {
+	return 33 <= b && b <= 126 && b != '"' && b != '\\'
+}
+
 func appendByte(text []byte, b byte) []byte {
-	const digits = "0123456789abcdef"
-	if b < 33 || b > 126 || b == '"' || b == '\\' {
-		return append(text, '\\', 'x', digits[b>>4], digits[b&15])
+	if plain(b) {
+		return append(text, b)
 	}
-	return append(text, b)
+	return append(text, '\\', 'x', digits[b>>4], digits[b&15])
 }
 
 func appendRef(text []byte, n int) []byte {

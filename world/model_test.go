@@ -125,8 +125,17 @@ func (m *model) set(h api.Handle, comp, field string, v api.Value) api.Errno {
 	if e != api.OK {
 		return e
 	}
-	kept := api.Value{Kind: old.Kind}
-	switch old.Kind {
+	kept, e := m.kept(old.Kind, v)
+	if e == api.OK {
+		m.living[h][comp][field] = kept
+	}
+	return e
+}
+
+// kept: what a field of this kind keeps of a value.
+func (m *model) kept(kind api.Kind, v api.Value) (api.Value, api.Errno) {
+	kept := api.Value{Kind: kind}
+	switch kind {
 	case api.Int, api.Bool:
 		kept.N = v.N
 	case api.Text:
@@ -137,17 +146,16 @@ func (m *model) set(h api.Handle, comp, field string, v api.Value) api.Errno {
 		kept.L = slices.Clone(v.L)
 	}
 	switch {
-	case v.Kind != old.Kind:
-		return api.ErrType
+	case v.Kind != kind:
+		return kept, api.ErrType
 	case v.Kind == api.Bool && v.N != 0 && v.N != 1:
-		return api.ErrType
+		return kept, api.ErrType
 	case len(kept.S) > 12 || len(kept.L) > 4:
-		return api.ErrType
+		return kept, api.ErrType
 	case kept.H != (api.Handle{}) && m.living[kept.H] == nil:
-		return api.ErrRef
+		return kept, api.ErrRef
 	}
-	m.living[h][comp][field] = kept
-	return api.OK
+	return kept, api.OK
 }
 
 func (m *model) query(comps []string) ([]api.Handle, api.Errno) {
@@ -277,8 +285,10 @@ func step(t *testing.T, d *drawer, w *World, m *model) {
 	t.Helper()
 	var got, want api.Errno
 	h := d.handle(m)
-	call := d.below(40)
+	call := d.below(42)
 	switch {
+	case call >= 40:
+		stepScene(t, d, w, m)
 	case call < 4:
 		var wantH api.Handle
 		h, got = w.Spawn()

@@ -17,11 +17,12 @@ func (p *place) free() bool {
 	return !p.taken && p.begun < api.MaxGen
 }
 
-// begin: the number of the life that begins.
-func (p *place) begin() int {
+// begin: the number of the life that begins, of an entity that has these
+// components.
+func (p *place) begin(comps layout.Set) int {
 	p.begun++
 	p.taken = true
-	p.comps = 0
+	p.comps = comps
 	return p.begun
 }
 

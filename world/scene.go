@@ -11,21 +11,10 @@ func (w *World) Save() string {
 	return w.scene().Text(w.layout)
 }
 
-// Load: the entities of a text (P8).
-func (w *World) Load(text string) ([]api.Handle, api.Errno) { return nil, api.OK }
-
 // Pack: the world as bytes (P7).
 func (w *World) Pack() string {
 	w = w.orEmpty()
 	return w.scene().Bytes(w.layout)
-}
-
-// Unpack: the entities of bytes (P8).
-func (w *World) Unpack(bytes string) ([]api.Handle, api.Errno) { return nil, api.OK }
-
-// Put: the entities of a text, with changes (P9).
-func (w *World) Put(text string, over []api.Over) ([]api.Handle, api.Errno, int) {
-	return nil, api.OK, 0
 }
 
 // scene: that of the world: all entities by their places, rising.

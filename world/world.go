@@ -25,6 +25,11 @@ func New(schema string) (*World, api.Errno) {
 
 // Spawn: an entity comes to live (P2).
 func (w *World) Spawn() (api.Handle, api.Errno) {
+	return w.spawn(0)
+}
+
+// spawn: an entity comes to live, with these components and the first values.
+func (w *World) spawn(comps layout.Set) (api.Handle, api.Errno) {
 	if w == nil {
 		// New hands out nil beside an error: such a world has no places.
 		return api.Handle{}, api.ErrFull
@@ -32,8 +37,8 @@ func (w *World) Spawn() (api.Handle, api.Errno) {
 	for i := range w.places {
 		p := &w.places[i]
 		if p.free() {
-			h := api.Handle{Place: i + 1, Life: p.begin()}
-			w.enter(h, p.comps)
+			h := api.Handle{Place: i + 1, Life: p.begin(comps)}
+			w.enter(h, comps)
 			return h, api.OK
 		}
 	}
